@@ -1,0 +1,1 @@
+"""A picture with its layers, and the file that keeps it."""
