@@ -43,10 +43,18 @@ def layer_of(body, columns, rows):
     return Layer(body[1:rows_at], numbers)
 
 
-def take_page(document, body):
+def page_of(body):
+    """A new document with the page that a part's body tells; None if it isn't so formed."""
     if len(body) != 2 or not is_page(body[0], body[1]):
+        return None
+    return Document(body[0], body[1])
+
+
+def take_page(document, body):
+    told = page_of(body)
+    if told is None:
         return WRONG_PAGE
-    document.become(Document(body[0], body[1]))
+    document.become(told)
     return NO_FAULT
 
 
@@ -87,15 +95,22 @@ def take_part(document, kind, body, left):
     return take_other(document, kind, body)
 
 
+def behind_beginning(some_bytes):
+    """The place behind a file's first bytes; 0 if it doesn't begin with them."""
+    if tuple(some_bytes[:len(BEGINNING)]) != BEGINNING:
+        return 0
+    return len(BEGINNING)
+
+
 def read_file(some_bytes):
     """The document, the fault's number (NO_FAULT if there is none) and the byte at which the last part begins.
 
     With a fault the document holds just what was read ahead of it.
     """
     document = Document(1, 1)
-    if tuple(some_bytes[:len(BEGINNING)]) != BEGINNING:
+    at = behind_beginning(some_bytes)
+    if at == 0:
         return (document, WRONG_BEGINNING, 0)
-    at = len(BEGINNING)
     while at < len(some_bytes):
         part = whole_part(some_bytes, at)
         if part is None:

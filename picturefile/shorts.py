@@ -74,3 +74,11 @@ def read_short(some_bytes, at, wanted):
     if len(numbers) > wanted:
         return None
     return (numbers, at)
+
+
+def whole_short(some_bytes, wanted):
+    """The bytes that all of these tell; None if they aren't just as many as wanted, so formed."""
+    short = read_short(some_bytes, 0, wanted)
+    if short is None or short[1] != len(some_bytes):
+        return None
+    return short[0]

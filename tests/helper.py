@@ -4,6 +4,8 @@ from picturefile.documents import answers
 
 LARGEST = 4294967295
 WRITE = [5]
+SHOWS = [8]
+OTHERS = [10]
 NEW_FILE = [80, 73, 1, 0, 2, 1, 1, 80, 30, 0, 0, 0, 50, 167]
 
 
@@ -29,6 +31,22 @@ def drop(i):
 
 def read(some_bytes):
     return [6, len(some_bytes)] + some_bytes
+
+
+def mend(some_bytes):
+    return [7, len(some_bytes)] + some_bytes
+
+
+def look(i):
+    return [9, i]
+
+
+def short(numbers):
+    return [11, len(numbers)] + numbers
+
+
+def long(n, some_bytes):
+    return [12, n, len(some_bytes)] + some_bytes
 
 
 def ask(*calls):
@@ -65,11 +83,36 @@ def part(kind, body):
     return told + [total >> 8, total & 255]
 
 
+def spoilt(one):
+    """The part with another sum."""
+    return one[:-1] + [(one[-1] + 1) % 256]
+
+
 def file_with(*parts):
     return [80, 73] + [x for one in parts for x in one]
 
 
 END = part(0, [])
+
+
+def different(count):
+    """So many numbers of which no two neighbours are alike."""
+    return [k % 251 for k in range(count)]
+
+
+def any_bytes(chance, most):
+    return [chance.randrange(256) for x in range(chance.randint(0, most))]
+
+
+def any_document(chance):
+    """Calls that make some document or other."""
+    w, h, values = chance.randint(1, 8), chance.randint(1, 8), chance.choice((2, 4, 256))
+    calls = [page(w, h)]
+    for i in range(chance.randint(0, 6)):
+        calls += [layer(any_bytes(chance, 12)), cells(i, [chance.randrange(values) for cell in range(w * h)])]
+    for i in range(chance.randint(0, 6)):
+        calls.append(other(chance.randint(3, 255), any_bytes(chance, 40)))
+    return calls
 
 
 def place_of(number, *parts):

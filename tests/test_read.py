@@ -4,7 +4,8 @@ import random
 import unittest
 
 from helper import (
-    LARGEST, NEW_FILE, WRITE, END, ask, cells, drop, file_of, file_with, last, layer, other, page, part, place_of, read,
+    LARGEST, NEW_FILE, WRITE, END, any_document, ask, cells, drop, file_of, file_with, last, layer, other, page, part,
+    place_of, read, spoilt,
 )
 
 PAGE = part(1, [3, 2])
@@ -13,11 +14,6 @@ LAYER = part(2, [1, 65] + PLAIN)
 BAD_LAYER = part(2, [13] + [65] * 13 + PLAIN)
 OTHER = part(9, [1, 2, 3])
 BEFORE = [page(2, 2), layer([7]), cells(0, [1, 2, 3, 4]), other(77, [6, 5])]
-
-
-def spoilt(one):
-    """The part with another sum."""
-    return one[:-1] + [(one[-1] + 1) % 256]
 
 
 class Reads(unittest.TestCase):
@@ -96,15 +92,9 @@ class ReadAsItWas(Reads):
     def test_whatever_was_written(self):
         chance = random.Random(2)
         for k in range(300):
-            w, h, values = chance.randint(1, 8), chance.randint(1, 8), chance.choice((2, 4, 256))
-            calls = [page(w, h)]
-            for i in range(chance.randint(0, 6)):
-                numbers = [chance.randrange(values) for cell in range(w * h)]
-                calls += [layer([chance.randrange(256) for x in range(chance.randint(0, 12))]), cells(i, numbers)]
-            for i in range(chance.randint(0, 6)):
-                calls.append(other(chance.randint(3, 255), [chance.randrange(256) for x in range(chance.randint(0, 40))]))
-            self.stands(file_of(*calls), [w, h, sum(1 for call in calls if call[0] == 1),
-                                          sum(1 for call in calls if call[0] == 3)])
+            calls = any_document(chance)
+            how = calls[0][1:] + [sum(1 for call in calls if call[0] == number) for number in (1, 3)]
+            self.stands(file_of(*calls), how)
 
 
 class OneByteChanged(Reads):

@@ -3,12 +3,8 @@
 import random
 import unittest
 
+from helper import different
 from picturefile.shorts import in_short, read_short
-
-
-def different(count):
-    """So many numbers of which no two neighbours are alike."""
-    return [k % 251 for k in range(count)]
 
 
 class InShort(unittest.TestCase):
